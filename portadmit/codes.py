@@ -14,6 +14,20 @@ UNPLUG = 10
 SAY = 11
 REPLY = 12
 BYE = 13
+FRAME = 14
+TICK = 15
+REPORT = 16
+DELIVER = 17
+LOSE = 18
+DOUBLE = 19
+RESTART = 20
+REBOOT = 21
+KEYED = 22
+PORT = 23
+BAG = 24
+ACCOUNT = 25
+WHOIS = 26
+COUNTS = 27
 
 # By the call's number, from begin (0) to counts (27): a list is cut into calls
 # by these even where a call is only answered with -20.

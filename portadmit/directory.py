@@ -1,6 +1,6 @@
-"""The calls on the directory: its persons and its rules."""
+"""The calls on the directory: its persons, its rules and its reboot."""
 
-from portadmit.codes import MEMBER, NORULES, PERSON, RULE, SECRET, UNPERSON
+from portadmit.codes import MEMBER, NORULES, PERSON, REBOOT, RULE, SECRET, UNPERSON
 from portadmit.values import all_within, is_choice, is_group, is_host, is_secret, is_who
 from portadmit.world import OVER, Person, Rule, send
 
@@ -90,6 +90,12 @@ def set_barred(world, who, x):
     return [0]
 
 
+def reboot(world):
+    world.known = {}
+    world.begun = []
+    return [0]
+
+
 def directory_call(world, code, row):
     if code == PERSON:
         return add_person(world, row[0], row[1], row[2])
@@ -103,4 +109,6 @@ def directory_call(world, code, row):
         return add_rule(world, row)
     if code == NORULES:
         return drop_rules(world)
+    if code == REBOOT:
+        return reboot(world)
     return set_barred(world, row[0], row[1])

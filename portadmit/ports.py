@@ -1,8 +1,11 @@
 """A list of calls and the list of their answers."""
 
-from portadmit.codes import BAR, BEGIN, BYE, SIZES
+from portadmit.codes import BAR, BEGIN, DELIVER, DOUBLE, FRAME, LOSE, REBOOT, REPORT, RESTART, SIZES, TICK
 from portadmit.directory import directory_call
+from portadmit.net import net_call
 from portadmit.switch import switch_call
+from portadmit.telling import telling_call
+from portadmit.ticking import tick
 from portadmit.values import all_within
 from portadmit.world import World
 
@@ -13,11 +16,15 @@ BEGIN_RANGES = (
 
 
 def act(world, code, row):
-    if code <= BAR:
+    if code <= BAR or code == REBOOT:
         return directory_call(world, code, row)
-    if code <= BYE:
+    if code <= FRAME or code in (REPORT, RESTART):
         return switch_call(world, code, row)
-    raise NotImplementedError(f"call {code} is not there yet")
+    if code == TICK:
+        return tick(world, row[0])
+    if code in (DELIVER, LOSE, DOUBLE):
+        return net_call(world, code, row[0])
+    return telling_call(world, code, row)
 
 
 def answers(calls):

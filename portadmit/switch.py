@@ -1,8 +1,8 @@
 """The calls on the switch: what happens at its ports."""
 
-from portadmit.codes import GUEST, PLUG, REPLY, SAY, UNPLUG
-from portadmit.values import MOST_REPLY, MOST_VLAN, is_host, is_who, within
-from portadmit.world import ANSWER, HELLO, Stand, draw, send
+from portadmit.codes import BYE, FRAME, GUEST, PLUG, REPLY, REPORT, SAY, UNPLUG
+from portadmit.values import MOST_FRAMES, MOST_REPLY, MOST_VLAN, is_host, is_who, within
+from portadmit.world import ANSWER, COUNT, HELLO, Stand, draw, send
 from portadmit.world import AS_GUEST, ASKING, CHALLENGED, CHECKING, DOWN, HELD, LOOKING
 
 
@@ -129,6 +129,47 @@ def bye(world, place, host):
     return [0]
 
 
+def pass_frames(session, host, k):
+    if session.host != host:
+        return [-5]
+    session.frames += k
+    return [0, session.vlan]
+
+
+def frame(world, place, host, k):
+    if not is_port(world, place):
+        return [-1]
+    if not (is_host(host) and within(k, 1, MOST_FRAMES)):
+        return [-2]
+    port = world.ports[place]
+    if port.session is not None:
+        return pass_frames(port.session, host, k)
+    if port.stand.kind == DOWN:
+        return [-3]
+    if port.stand.kind == AS_GUEST:
+        return [0, port.guest]
+    return [-4]
+
+
+def report(world):
+    for port in world.ports:
+        if port.session is not None:
+            send(world, (COUNT, port.session.number, port.session.frames, 0))
+    for record in world.records:
+        send(world, (COUNT, record[0], record[1], 1))
+    return [0]
+
+
+def restart(world):
+    # The sessions are forgotten, not ended: no record is made of them.
+    for port in world.ports:
+        port.session = None
+        if port.stand.kind != DOWN:
+            ask_anew(world, port)
+    world.records = []
+    return [0]
+
+
 def switch_call(world, code, row):
     if code == GUEST:
         return set_guest(world, row[0], row[1])
@@ -140,4 +181,10 @@ def switch_call(world, code, row):
         return say(world, row[0], row[1], row[2])
     if code == REPLY:
         return reply(world, row[0], row[1], row[2])
-    return bye(world, row[0], row[1])
+    if code == BYE:
+        return bye(world, row[0], row[1])
+    if code == FRAME:
+        return frame(world, row[0], row[1], row[2])
+    if code == REPORT:
+        return report(world)
+    return restart(world)

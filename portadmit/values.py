@@ -1,4 +1,4 @@
-"""The ranges in which the values of the calls lie."""
+"""The ranges in which the values of the calls lie, and the keyed sum."""
 
 MOST_HOST = 281474976710655
 HOST_STEP = 1099511627776
@@ -7,6 +7,11 @@ MOST_SECRET = 2305843009213693950
 MOST_REPLY = 4611686018427387904
 MOST_VLAN = 4094
 MOST_GROUP = 63
+MOST_CHALLENGE = 4611686018427387904
+MOST_NOW = 4611686018427387904
+MOST_FRAMES = 1000000
+DAY = 86400
+SUM_MODULUS = 2305843009213693951
 
 
 def within(x, least, most):
@@ -39,3 +44,10 @@ def is_group(x):
 
 def is_choice(x):
     return within(x, 0, 1)
+
+
+def keyed_sum(secret, challenge):
+    x = (secret + challenge) % SUM_MODULUS
+    for k in range(1, 5):
+        x = (x * x + k * challenge + secret) % SUM_MODULUS
+    return x

@@ -12,10 +12,16 @@ HELD = 5
 AS_GUEST = 6
 INSIDE = 7
 
-# Messages are tuples that begin with one of these.
+# Messages are tuples that begin with one of these, in the form in which bag tells them:
+# those up to COUNT go to the directory, the others to the switch.
 HELLO = 0
 ANSWER = 1
+COUNT = 2
+CHALLENGE = 3
+YES = 4
+NO = 5
 OVER = 6
+GOT = 7
 
 
 class Stand:
@@ -72,6 +78,17 @@ class Rule:
         self.again = row[7]
 
 
+class Attempt:
+    # What was decided is kept as the message that told it: it's sent once more as it was then.
+    def __init__(self, port, who, host, challenge, forgotten):
+        self.port = port
+        self.who = who
+        self.host = host
+        self.challenge = challenge
+        self.forgotten = forgotten
+        self.decided = None
+
+
 class Begun:
     def __init__(self, number, who, host, port, over):
         self.number = number
@@ -100,7 +117,9 @@ class World:
         self.records = []
         self.persons = {}
         self.rules = []
+        self.known = {}
         self.begun = []
+        self.accounts = {}
 
 
 def draw(world):

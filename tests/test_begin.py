@@ -2,11 +2,10 @@
 
 import unittest
 
-from portadmit.ports import act
 from portadmit.world import DOWN, World
 from tests.helper import (
-    BAR, BEGIN, BYE, GUEST, LEAST, MEMBER, MOST, NORULES, PERSON, PLUG, REPLY, RULE, SAY,
-    SECRET, START, TEN, UNPERSON, UNPLUG, outside, picture, run, stand,
+    ACCOUNT, BAG, BAR, BEGIN, BYE, COUNTS, DELIVER, GUEST, LEAST, MEMBER, MOST, NORULES, PERSON, PLUG, PORT, REPLY,
+    REPORT, RULE, SAY, SECRET, START, TICK, UNPERSON, UNPLUG, WHOIS, keyed_sum, outside, picture, run, stand,
 )
 
 MOSTS = (64, 1024, 1000000, 10, 1000000, 10, 1000000, 1000000, 256, 1024)
@@ -64,7 +63,8 @@ class BeginTest(unittest.TestCase):
         self.assertEqual(seen, {
             "bag_size": 4, "wait": 5, "tries": 6, "hold": 7, "most_wrong": 8, "lock": 9,
             "life": 10, "asks": 11, "most_records": 12, "now": 0, "book": 0, "lost": 0,
-            "bag": [], "records": [], "persons": {}, "rules": [], "begun": [],
+            "bag": [], "records": [], "persons": {}, "rules": [], "known": {}, "begun": [],
+            "accounts": {},
         })
 
 
@@ -96,11 +96,6 @@ class BeforeBeginTest(unittest.TestCase):
     def test_begin_works_after_a_refused_one(self):
         self.assertEqual(run(begin_with(9, 1025), START, (PLUG, 0)), [[-1], [0], [0]])
 
-    def test_later_calls_are_not_there_yet(self):
-        for code in range(14, 28):
-            with self.assertRaises(NotImplementedError):
-                act(World(list(TEN)), code, [0, 0, 0])
-
 
 class BeginAgainTest(unittest.TestCase):
     full = (
@@ -122,6 +117,21 @@ class BeginAgainTest(unittest.TestCase):
             (PERSON, 8, 1, 100), (PLUG, 2), (PLUG, 3),
         )
         self.assertEqual(rows[5:], [[0], [-1], [-2], [-3], [0], [0], [-1]])
+
+    def test_nothing_of_a_full_day_is_left(self):
+        x = keyed_sum(11, 2)
+        day = (
+            START, (PERSON, 7, 11, 100), (MEMBER, 7, 1, 1), (RULE, 1, 0, 1, 0, 86399, 20, 600, 300), (GUEST, 0, 9),
+            (PLUG, 0), (SAY, 0, 100, 7), (DELIVER, 0), (DELIVER, 0), (REPLY, 0, 100, x), (DELIVER, 0), (DELIVER, 0),
+            (BYE, 0, 100), (REPORT,), (DELIVER, 0), (TICK, 1), (SAY, 0, 100, 7), (COUNTS,),
+        )
+        asked = ((COUNTS,), (BAG,), (PORT, 0), (ACCOUNT, 3), (WHOIS, 7), (PLUG, 0), (PORT, 0))
+        rows = run(*day, START, *asked)
+        self.assertEqual(rows[17], [0, 1, 4, 0, 0, 1, 1, 1, 1, 0])
+        self.assertEqual(rows[18:24], [[0], [0] * 10, [0, 0], [0, 0, 0, 0], [-1], [-1]])
+        self.assertEqual(rows[24:], [[0], [0, 1, 1, 5, 0, 0]])
+        refused = run(*day, begin_with(0, 65), (COUNTS,), (ACCOUNT, 3), (PORT, 0))
+        self.assertEqual(refused[18:], [[-1], rows[17], [0, 0, 1], [0, 2, 4, 7, 100, 1, 5, 0, 9]])
 
     def test_begin_makes_room_for_persons_and_rules(self):
         rule = (RULE, 1, 0, 1, 0, 86399, 20, 600, 300)
